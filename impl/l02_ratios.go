@@ -1,0 +1,131 @@
+package impl
+
+import "strings"
+
+type Ratio struct {
+	Up   Wide
+	Down Wide
+}
+
+// fraction is a ratio on its way to lowest terms; its parts may be greater than any that is told.
+type fraction struct {
+	up   long
+	down long
+}
+
+// lowest answers false when down is 0 or a part is not told.
+func (f fraction) lowest() (Ratio, bool) {
+	if f.down == (long{}) {
+		return Ratio{}, false
+	}
+	up, down := f.up.size(), f.down.size()
+	common := commonOf(up, down)
+	up, _ = divideLong(up, common)
+	down, _ = divideLong(down, common)
+	above, ok := tellWide(up.signed(f.up.isBelow() != f.down.isBelow()))
+	if !ok {
+		return Ratio{}, false
+	}
+	under, ok := tellWide(down)
+	if !ok {
+		return Ratio{}, false
+	}
+	return Ratio{Up: above, Down: under}, true
+}
+
+func (a Ratio) right() bool {
+	common, ok := WideGcd(a.Up, a.Down)
+	return ok && WideSign(a.Down) == 1 && common == WideOf(1)
+}
+
+// cross is Up as it stands over the Down of both.
+func (a Ratio) cross(b Ratio) long {
+	return times(a.Up, b.Down)
+}
+
+func (a Ratio) plus(b Ratio) fraction {
+	return fraction{up: a.cross(b).plus(b.cross(a)), down: times(a.Down, b.Down)}
+}
+
+func (a Ratio) times(b Ratio) fraction {
+	return fraction{up: times(a.Up, b.Up), down: times(a.Down, b.Down)}
+}
+
+func (a Ratio) over(b Ratio) fraction {
+	return fraction{up: a.cross(b), down: b.cross(a)}
+}
+
+func RatioOk(a Ratio) bool {
+	return a.right()
+}
+
+func RatioOf(up Wide, down Wide) (Ratio, bool) {
+	return fraction{up: longOf(up), down: longOf(down)}.lowest()
+}
+
+func RatioAdd(a Ratio, b Ratio) (Ratio, bool) {
+	if !a.right() || !b.right() {
+		return Ratio{}, false
+	}
+	return a.plus(b).lowest()
+}
+
+func RatioMul(a Ratio, b Ratio) (Ratio, bool) {
+	if !a.right() || !b.right() {
+		return Ratio{}, false
+	}
+	return a.times(b).lowest()
+}
+
+func RatioDiv(a Ratio, b Ratio) (Ratio, bool) {
+	if !a.right() || !b.right() {
+		return Ratio{}, false
+	}
+	return a.over(b).lowest()
+}
+
+func RatioCmp(a Ratio, b Ratio) (int64, bool) {
+	if !a.right() || !b.right() {
+		return 0, false
+	}
+	return a.cross(b).minus(b.cross(a)).sign(), true
+}
+
+func RatioFloor(a Ratio) (Wide, bool) {
+	if !a.right() {
+		return Wide{}, false
+	}
+	// Down is above 0 and the rest is not below it, so the quotient is the floor.
+	floor, _, ok := WideDiv(a.Up, a.Down)
+	return floor, ok
+}
+
+func RatioText(a Ratio) string {
+	if !a.right() {
+		return ""
+	}
+	text := WideText(a.Up)
+	if a.Down != WideOf(1) {
+		text += "/" + WideText(a.Down)
+	}
+	return text
+}
+
+func ReadRatio(s string) (Ratio, bool) {
+	upText, downText, parted := strings.Cut(s, "/")
+	down := WideOf(1)
+	if parted {
+		var ok bool
+		down, ok = ReadWide(downText)
+		// A Down of 1 is never written.
+		if !ok || down == WideOf(1) {
+			return Ratio{}, false
+		}
+	}
+	up, ok := ReadWide(upText)
+	a := Ratio{Up: up, Down: down}
+	if !ok || !a.right() {
+		return Ratio{}, false
+	}
+	return a, true
+}
