@@ -85,18 +85,16 @@ func (x long) isBelow() bool {
 	return x[longWords-1]>>63 == 1
 }
 
-func (x long) size() long {
-	if x.isBelow() {
-		return long{}.minus(x)
-	}
-	return x
-}
-
+// signed turns the sign of x when below holds.
 func (x long) signed(below bool) long {
 	if below {
 		return long{}.minus(x)
 	}
 	return x
+}
+
+func (x long) size() long {
+	return x.signed(x.isBelow())
 }
 
 func (x long) sign() int64 {
@@ -312,7 +310,7 @@ func commonOf(x long, y long) long {
 	if y == (long{}) {
 		return x
 	}
-	// Most common divisors are sought of small numbers: these need no long division.
+	// Behind this step both fit in a word, where the machine's own rest is far faster.
 	_, rest := divideLong(x, y)
 	return long{commonOfWords(y[0], rest[0])}
 }
