@@ -282,6 +282,12 @@ func divideLong(x long, y long) (long, long) {
 	return quotient, liftDown(rest, lift)
 }
 
+// share is x / by, with the other sign when turned, if it is told; by divides x and is above 0.
+func (x long) share(by long, turned bool) (Wide, bool) {
+	quotient, _ := divideLong(x.size(), by)
+	return tellWide(quotient.signed(x.isBelow() != turned))
+}
+
 func WideDiv(a Wide, b Wide) (Wide, Wide, bool) {
 	if b == (Wide{}) {
 		return Wide{}, Wide{}, false

@@ -18,19 +18,16 @@ func (f fraction) lowest() (Ratio, bool) {
 	if f.down == (long{}) {
 		return Ratio{}, false
 	}
-	up, down := f.up.size(), f.down.size()
-	common := commonOf(up, down)
-	up, _ = divideLong(up, common)
-	down, _ = divideLong(down, common)
-	above, ok := tellWide(up.signed(f.up.isBelow() != f.down.isBelow()))
+	common := commonOf(f.up.size(), f.down.size())
+	up, ok := f.up.share(common, f.down.isBelow())
 	if !ok {
 		return Ratio{}, false
 	}
-	under, ok := tellWide(down)
+	down, ok := f.down.share(common, f.down.isBelow())
 	if !ok {
 		return Ratio{}, false
 	}
-	return Ratio{Up: above, Down: under}, true
+	return Ratio{Up: up, Down: down}, true
 }
 
 func (a Ratio) right() bool {
@@ -100,29 +97,36 @@ func RatioFloor(a Ratio) (Wide, bool) {
 	return floor, ok
 }
 
+// underText and cutUnder write and read what all stands over; a 1 is never written.
+func underText(down Wide) string {
+	if down == WideOf(1) {
+		return ""
+	}
+	return "/" + WideText(down)
+}
+
+func cutUnder(s string) (string, Wide, bool) {
+	over, under, parted := strings.Cut(s, "/")
+	if !parted {
+		return over, WideOf(1), true
+	}
+	down, ok := ReadWide(under)
+	return over, down, ok && down != WideOf(1)
+}
+
 func RatioText(a Ratio) string {
 	if !a.right() {
 		return ""
 	}
-	text := WideText(a.Up)
-	if a.Down != WideOf(1) {
-		text += "/" + WideText(a.Down)
-	}
-	return text
+	return WideText(a.Up) + underText(a.Down)
 }
 
 func ReadRatio(s string) (Ratio, bool) {
-	upText, downText, parted := strings.Cut(s, "/")
-	down := WideOf(1)
-	if parted {
-		var ok bool
-		down, ok = ReadWide(downText)
-		// A Down of 1 is never written.
-		if !ok || down == WideOf(1) {
-			return Ratio{}, false
-		}
+	over, down, ok := cutUnder(s)
+	if !ok {
+		return Ratio{}, false
 	}
-	up, ok := ReadWide(upText)
+	up, ok := ReadWide(over)
 	a := Ratio{Up: up, Down: down}
 	if !ok || !a.right() {
 		return Ratio{}, false
