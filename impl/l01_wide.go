@@ -188,17 +188,18 @@ func sizeOf(a Wide) words {
 func times(a Wide, b Wide) long {
 	x, y := sizeOf(a), sizeOf(b)
 	var product long
-	for i := range x {
+	n := countWords(y[:])
+	for i, word := range x[:countWords(x[:])] {
 		var over uint64
-		for j := range y {
-			high, low := bits.Mul64(x[i], y[j])
+		for j := range n {
+			high, low := bits.Mul64(word, y[j])
 			var carry uint64
 			low, carry = bits.Add64(low, product[i+j], 0)
 			high += carry
 			product[i+j], carry = bits.Add64(low, over, 0)
 			over = high + carry
 		}
-		product[i+wideWords] = over
+		product[i+n] = over
 	}
 	return product.signed(isBelow(a) != isBelow(b))
 }
