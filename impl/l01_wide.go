@@ -2,6 +2,7 @@ package impl
 
 import (
 	"math/bits"
+	"slices"
 	"strings"
 )
 
@@ -25,6 +26,9 @@ type words [wideWords]uint64
 // long is a number in two's complement with room for the product of any two
 // Wides and for the sum of two such products.
 type long [longWords]uint64
+
+// tall is a number of at least 0 of as many words as it needs, the highest one not 0.
+type tall []uint64
 
 // stretched has one word more than a long: division shifts what it divides up to a word's width.
 type stretched [longWords + 1]uint64
@@ -184,23 +188,29 @@ func sizeOf(a Wide) words {
 	return wordsOf(a)
 }
 
+// addProduct adds x times y to sum, which has room for it.
+func addProduct(sum []uint64, x []uint64, y []uint64) {
+	for i, word := range x {
+		var over uint64
+		for j, other := range y {
+			high, low := bits.Mul64(word, other)
+			var carry uint64
+			low, carry = bits.Add64(low, sum[i+j], 0)
+			high += carry
+			sum[i+j], carry = bits.Add64(low, over, 0)
+			over = high + carry
+		}
+		for at := i + len(y); over != 0; at++ {
+			sum[at], over = bits.Add64(sum[at], over, 0)
+		}
+	}
+}
+
 // times is the product of any two Wides.
 func times(a Wide, b Wide) long {
 	x, y := sizeOf(a), sizeOf(b)
 	var product long
-	n := countWords(y[:])
-	for i, word := range x[:countWords(x[:])] {
-		var over uint64
-		for j := range n {
-			high, low := bits.Mul64(word, y[j])
-			var carry uint64
-			low, carry = bits.Add64(low, product[i+j], 0)
-			high += carry
-			product[i+j], carry = bits.Add64(low, over, 0)
-			over = high + carry
-		}
-		product[i+n] = over
-	}
+	addProduct(product[:], x[:countWords(x[:])], y[:countWords(y[:])])
 	return product.signed(isBelow(a) != isBelow(b))
 }
 
@@ -327,6 +337,49 @@ func commonOfWords(x uint64, y uint64) uint64 {
 		x, y = y, x%y
 	}
 	return x
+}
+
+// times is t times the size of a.
+func (t tall) times(a Wide) tall {
+	return t.timesPlus(a, nil, Wide{})
+}
+
+// timesPlus is t times the size of a, and u times the size of b.
+func (t tall) timesPlus(a Wide, u tall, b Wide) tall {
+	x, y := sizeOf(a), sizeOf(b)
+	sum := make(tall, max(len(t), len(u))+wideWords+1)
+	addProduct(sum, t, x[:])
+	addProduct(sum, u, y[:])
+	return sum[:countWords(sum)]
+}
+
+func (t tall) grown(n int) tall {
+	return append(slices.Clone(t), make(tall, n-len(t))...)
+}
+
+// minus answers t - u without its sign, and whether it is below 0.
+func (t tall) minus(u tall) (tall, bool) {
+	n := max(len(t), len(u)) + 1
+	left := t.grown(n)
+	takeWords(left, left, u.grown(n))
+	below := left[n-1] != 0
+	if below {
+		takeWords(left, make(tall, n), left)
+	}
+	return left[:countWords(left)], below
+}
+
+// over answers quotient and rest of t and a number that leaves a long room for one word more.
+func (t tall) over(by long) (tall, long) {
+	quotient := make(tall, len(t))
+	var rest long
+	for i := len(t) - 1; i >= 0; i-- {
+		digit := long{t[i]}
+		copy(digit[1:], rest[:])
+		digit, rest = divideLong(digit, by)
+		quotient[i] = digit[0]
+	}
+	return quotient[:countWords(quotient)], rest
 }
 
 func WideGcd(a Wide, b Wide) (Wide, bool) {
