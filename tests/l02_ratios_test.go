@@ -152,6 +152,7 @@ func TestRatiosOfTheLeastNumber(t *testing.T) {
 }
 
 func TestRatioSums(t *testing.T) {
+	t.Parallel()
 	ratioPairs(func(a, b impl.Ratio) {
 		sum, ok := impl.RatioAdd(a, b)
 		sameRatio(t, "sum", sum, ok, new(big.Rat).Add(ratOf(a), ratOf(b)))
@@ -172,6 +173,7 @@ func TestRatioSums(t *testing.T) {
 }
 
 func TestRatioProducts(t *testing.T) {
+	t.Parallel()
 	ratioPairs(func(a, b impl.Ratio) {
 		product, ok := impl.RatioMul(a, b)
 		sameRatio(t, "product", product, ok, new(big.Rat).Mul(ratOf(a), ratOf(b)))

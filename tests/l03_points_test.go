@@ -354,6 +354,7 @@ func checkTurns(t *testing.T, p, q, r impl.Point) {
 }
 
 func TestTurns(t *testing.T) {
+	t.Parallel()
 	pointTriples(func(p, q, r impl.Point) { checkTurns(t, p, q, r) })
 	turns := map[int64]int{}
 	linedUp(func(p, q, r impl.Point) {

@@ -144,8 +144,9 @@ func formWanted(r impl.Ring) impl.Ring {
 }
 
 // sideWanted counts how often the ring winds round p, by the sides that a level way to the right of it meets.
-func sideWanted(r impl.Ring, p impl.Point) int64 {
-	at := placeOf(p)
+func sideWanted(r impl.Ring, p impl.Point) int64 { return ringSideAt(r, placeOf(p)) }
+
+func ringSideAt(r impl.Ring, at place) int64 {
 	winds := int64(0)
 	for i, s := range r.Spots {
 		a, b := placeAt(s), placeAt(after(r, i))
@@ -488,6 +489,7 @@ func nearPoints(r impl.Ring) []impl.Point {
 }
 
 func TestRingSides(t *testing.T) {
+	t.Parallel()
 	seen := map[int64]int{}
 	for _, r := range rightRings() {
 		turned, later := impl.RingTurned(r), from(r, len(r.Spots)/2)

@@ -87,10 +87,12 @@ func layerAreaWanted(l []impl.Ring) int64 {
 	return sum
 }
 
-func layerSideWanted(l []impl.Ring, p impl.Point) int64 {
+func layerSideWanted(l []impl.Ring, p impl.Point) int64 { return layerSideAt(l, placeOf(p)) }
+
+func layerSideAt(l []impl.Ring, at place) int64 {
 	within := 0
 	for _, r := range l {
-		switch sideWanted(r, p) {
+		switch ringSideAt(r, at) {
 		case impl.SdOn:
 			return impl.SdOn
 		case impl.SdIn:
@@ -247,6 +249,7 @@ func TestLayerFaultsOfOurOwn(t *testing.T) {
 }
 
 func TestLayerSides(t *testing.T) {
+	t.Parallel()
 	seen := map[int64]int{}
 	for i, l := range rightLayers() {
 		check := func(p impl.Point) {

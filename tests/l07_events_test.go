@@ -400,6 +400,7 @@ func pointsNear(segs []impl.Seg) []impl.Point {
 }
 
 func TestStatus(t *testing.T) {
+	t.Parallel()
 	seen := map[string]int{}
 	for _, segs := range rightSegs() {
 		for _, p := range pointsNear(segs) {

@@ -107,6 +107,7 @@ func checkPromise8(t *testing.T, segs []impl.Seg, hits []impl.Hit, pairs []impl.
 }
 
 func TestHits(t *testing.T) {
+	t.Parallel()
 	seen := map[string]int{}
 	for _, segs := range rightSegs() {
 		hits, ok := impl.HitsOf(segs)
@@ -215,6 +216,7 @@ func TestHitsOfOurOwn(t *testing.T) {
 }
 
 func TestHitsAtPoints(t *testing.T) {
+	t.Parallel()
 	seen := map[int]int{}
 	for _, segs := range rightSegs() {
 		for _, p := range pointsNear(segs) {

@@ -156,6 +156,7 @@ func checkEdges(t *testing.T, segs []impl.Seg, plan impl.Plan) {
 }
 
 func TestPlans(t *testing.T) {
+	t.Parallel()
 	seen := map[string]int{}
 	for _, segs := range rightSegs() {
 		plan, ok := impl.PlanOf(segs)
@@ -181,6 +182,7 @@ func TestPlans(t *testing.T) {
 }
 
 func TestHalvesAround(t *testing.T) {
+	t.Parallel()
 	seen := map[string]int{}
 	for _, segs := range rightSegs() {
 		plan, _ := impl.PlanOf(segs)
@@ -208,6 +210,7 @@ func TestHalvesAround(t *testing.T) {
 
 // TestPlansOfSmallLattices takes thrown segments of a lattice, where nearly all touch, lie over one another or go through one point.
 func TestPlansOfSmallLattices(t *testing.T) {
+	t.Parallel()
 	d := dice(83)
 	for i := range 400 {
 		segs := d.segs(2+i%8, 1+int64(i%3))
@@ -228,6 +231,7 @@ func TestPlansOfSmallLattices(t *testing.T) {
 
 // TestPlansInAnyOrder asks of the same segments in another order: only the numbers of the segments change.
 func TestPlansInAnyOrder(t *testing.T) {
+	t.Parallel()
 	for _, segs := range rightSegs() {
 		plan, _ := impl.PlanOf(segs)
 		turned := slices.Clone(segs)
@@ -327,6 +331,7 @@ func TestAroundOfOurOwn(t *testing.T) {
 
 // TestGreatestPlans has 40 segments: all cross all, all through one point, all along one line.
 func TestGreatestPlans(t *testing.T) {
+	t.Parallel()
 	var crossed, through, along []impl.Seg
 	for i := range int64(40) {
 		crossed = append(crossed, seg(-1000, i*i*i, 1000, -i*i*i+i))

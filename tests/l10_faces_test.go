@@ -330,6 +330,7 @@ func (d *dice) needle() []impl.Seg {
 }
 
 func TestFaces(t *testing.T) {
+	t.Parallel()
 	seen := map[string]int{}
 	for _, segs := range rightSegs() {
 		some := 40
@@ -359,6 +360,7 @@ func TestFaces(t *testing.T) {
 
 // TestFacesOfSmallLattices takes thrown segments where nearly all touch, lie over one another or go through one point.
 func TestFacesOfSmallLattices(t *testing.T) {
+	t.Parallel()
 	d := dice(103)
 	for i := range 400 {
 		checkFaces(t, d.segs(2+i%9, 1+int64(i%3)), 100)
@@ -630,6 +632,7 @@ func checkPromise10(t *testing.T, segs []impl.Seg) bool {
 }
 
 func TestPromise10(t *testing.T) {
+	t.Parallel()
 	d := dice(109)
 	added := 0
 	for _, segs := range slices.Concat(rightSegs(), [][]impl.Seg{squares(10, 1), squares(10, 50000), d.crumbs(6), d.crumbs(9), d.shortSegs(40, 9)}) {
@@ -646,6 +649,7 @@ func TestPromise10(t *testing.T) {
 
 // TestGreatestFaces has 40 segments: all cross all, all through one point, a lattice, squares in squares, all apart.
 func TestGreatestFaces(t *testing.T) {
+	t.Parallel()
 	var crossed, through, apart []impl.Seg
 	for i := range int64(40) {
 		crossed = append(crossed, seg(-1000, i*i*i, 1000, -i*i*i+i))
