@@ -40,6 +40,11 @@ func (a Ratio) cross(b Ratio) long {
 	return times(a.Up, b.Down)
 }
 
+// order is asked of right ratios alone.
+func (a Ratio) order(b Ratio) int64 {
+	return a.cross(b).minus(b.cross(a)).sign()
+}
+
 func (a Ratio) plus(b Ratio) fraction {
 	return fraction{up: a.cross(b).plus(b.cross(a)), down: times(a.Down, b.Down)}
 }
@@ -85,7 +90,7 @@ func RatioCmp(a Ratio, b Ratio) (int64, bool) {
 	if !a.right() || !b.right() {
 		return 0, false
 	}
-	return a.cross(b).minus(b.cross(a)).sign(), true
+	return a.order(b), true
 }
 
 func RatioFloor(a Ratio) (Wide, bool) {
