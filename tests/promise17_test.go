@@ -17,7 +17,7 @@ import (
 	"loop.example/g00225/impl"
 )
 
-// askedAll are the functions that the document's chapters 1 to 15 list.
+// askedAll are the functions that the document's chapters 1 to 16 list.
 func askedAll() map[string]any {
 	return map[string]any{
 		"WideOf": impl.WideOf, "WideSign": impl.WideSign, "WideCmp": impl.WideCmp, "WideAdd": impl.WideAdd, "WideSub": impl.WideSub, "WideNeg": impl.WideNeg, "WideMul": impl.WideMul, "WideDiv": impl.WideDiv, "WideGcd": impl.WideGcd, "WideBits": impl.WideBits, "WideText": impl.WideText, "ReadWide": impl.ReadWide,
@@ -35,6 +35,7 @@ func askedAll() map[string]any {
 		"QuadOk": impl.QuadOk, "QuadNew": impl.QuadNew, "QuadPut": impl.QuadPut, "QuadCut": impl.QuadCut, "QuadWindow": impl.QuadWindow, "QuadNearest": impl.QuadNearest, "QuadCount": impl.QuadCount,
 		"Relate": impl.Relate, "MaskOk": impl.MaskOk, "Matches": impl.Matches, "Named": impl.Named, "Transposed": impl.Transposed,
 		"NearestSeg": impl.NearestSeg, "WindowSegs": impl.WindowSegs, "SameFace": impl.SameFace, "Free": impl.Free,
+		"SessionOk": impl.SessionOk, "SessionDo": impl.SessionDo, "RunScript": impl.RunScript,
 	}
 }
 
@@ -46,9 +47,6 @@ func TestAskedAll(t *testing.T) {
 	}
 	var names []string
 	for _, file := range files {
-		if strings.HasPrefix(filepath.Base(file), "l16") {
-			continue
-		}
 		text, err := parser.ParseFile(token.NewFileSet(), file, nil, 0)
 		if err != nil {
 			t.Fatal(err)
@@ -221,6 +219,7 @@ func samplesAll(t *testing.T) map[reflect.Type][]reflect.Value {
 	for _, v := range []any{
 		int64(-1), int64(0), int64(1), int64(2), int64(3), int64(4), int64(7), int64(40), int64(1000), int64(math.MaxInt64), int64(math.MinInt64),
 		"", "0", "-5", "12345678901234567890123", "1/2", "-7/3", "2/4", "3,4", "1,2/3", "none", "0 0 9 0 9 9 0 9 / 1 1 1 5 5 5 5 1", "1 2", "1 2 3", "2FF1FF212", ownMatrix, "FF2F01212", "212101212", "T*F**F***", "*********", "t********", "equals", "disjoint", "touches", "within", "contains", "overlaps", "intersects", "meets",
+		"load a none", "load b 1 1 5 1 5 5 1 5", "load a 0 0 9 0 9 9 0 9 / 1 1 1 5 5 5 5 1", "load a 0 0 2 2 2 0 0 2", "load b x", "area a", "side b 1 1", "at 1 1", "near 1 1", "window 0 0 4 4", "path 1 1 3 1", "map", "traps", "relate", "xor", "save", "fly", strings.Repeat(" ", 401), "map\n", "load a 0 0 4 0 4 4 0 4\nnear 1 1\nload b 1 1 5 1 5 5 1 5\nmap\nor\nrelate\nsave\n", strings.Repeat("\n", 41),
 		zero, one, impl.WideOf(-1), impl.WideOf(30), impl.WideOf(math.MinInt64), most, least, impl.Wide{W1: 5}, impl.Wide{W2: 1 << 40, W0: 7},
 		impl.Ratio{}, ratio(0, 1), ratio(1, 2), ratio(-7, 3), ratio(2, 4), ratio(5, 1), impl.Ratio{Up: most, Down: one}, impl.Ratio{Up: one, Down: most},
 		impl.Point{}, point(0, 0, 1), point(1, 1, 2), point(3, 3, 1), point(-7, 5, 3), point(2, 2, 2), point(4, 1, 1),
@@ -234,6 +233,7 @@ func samplesAll(t *testing.T) map[reflect.Type][]reflect.Value {
 		[]int64(nil), []int64{0}, []int64{3, 1, 0, 2}, []int64{0, 1, 2, 3}, []int64{0, 0}, ordersOf(12, 0, &d)[2],
 		way(0, 9), way(1, 1, 3, 1, 3, 1), way(-1, 1, 9, 1), slices.Repeat(way(1, 1), 12), slices.Repeat(way(1, 1), 13), []impl.Spot(nil),
 		impl.Cell{}, vertex(0), edgeCell(1), faceCell(0), faceCell(1), faceCell(99),
+		impl.Session{}, session(layer(square(0, 0, 4)), nil), session(nest, layer(square(1, 1, 2))), session(threes(6), nest), session(threes(7), nil), session(nil, make([]impl.Ring, 2)),
 		impl.Quad{}, filled(t, 3, 2), tree, filled(t, 2, 8, d.segs(9, 500)...), wrongTree,
 	} {
 		of := reflect.TypeOf(v)
@@ -252,7 +252,7 @@ type asking struct {
 
 // askingsOf are all calls of a function with such arguments, or thrown ones where there are too many.
 func askingsOf(name string, samples map[reflect.Type][]reflect.Value, d *dice) []asking {
-	const enough = 400
+	const enough = 900
 	call := reflect.ValueOf(askedAll()[name])
 	all := 1
 	for i := range call.Type().NumIn() {
